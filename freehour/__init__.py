@@ -1,0 +1,1 @@
+"""Freehour: the first hour that all have free."""
