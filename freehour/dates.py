@@ -1,6 +1,7 @@
 """Days, counted from 0, and the dates that they have."""
 
 from freehour.errors import NoDate
+from freehour.whole import is_whole
 
 MONTHS = 12
 MONTH_LENGTHS = (31, 28, 31, 30, 31, 30, 31, 31, 30, 31, 30, 31)
@@ -45,9 +46,9 @@ def date_of(day):
 
 def day_of(year, month, number):
     """Tell the day of a date; refuse with NoDate what is no date."""
-    if not 1 <= month <= MONTHS:
+    if not is_whole(month, 1, MONTHS):
         raise NoDate("there is no such month")
-    if not 1 <= number <= month_length(year, month):
+    if not is_whole(number, 1, month_length(year, month)):
         raise NoDate("the month has no such day")
     # Year 0 is long, so every fourth year ahead is counted from it, rounded up.
     long_years = (year + 3) // 4

@@ -1,6 +1,7 @@
 """Rules: what is one, and which hours their spans begin at and cover."""
 
 from freehour.dates import date_of, from_end
+from freehour.whole import is_whole
 
 DAY_HOURS = 24
 WEEK_DAYS = 7
@@ -12,12 +13,6 @@ MOST_MONTH_DAY = 31
 MOST_DAYS = 20
 MOST_RULES_WITHIN = 8
 WORDS_AROUND = ("from", "until", "also", "but")
-
-
-def is_whole(thing, low, high):
-    """Tell whether the thing is a whole number from low to high."""
-    # Python takes True and False for numbers, the document does not.
-    return isinstance(thing, int) and not isinstance(thing, bool) and low <= thing <= high
 
 
 def is_time(thing):

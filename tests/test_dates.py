@@ -90,6 +90,13 @@ class TestDayOf(unittest.TestCase):
                         with self.assertRaises(NoDate):
                             day_of(year, month, number)
 
+    def test_true_and_false_are_no_month_and_no_number(self):
+        for year in (0, 1, 4, 2025, HUGE):
+            for month, number in ((True, 27), (1, True), (False, 5), (1, False), (True, True), (2, True), (True, 0)):
+                for kind in (NoDate, HourError, ValueError):
+                    with self.assertRaises(kind):
+                        day_of(year, month, number)
+
     def test_the_refusal_is_taken_as_all_three(self):
         for kind in (NoDate, HourError, ValueError):
             for month, number in ((13, 1), (2, 30)):
